@@ -60,7 +60,11 @@ func read(b []byte) (api.Message, api.Errno) {
 	if e := fill(&m, r.number); e != api.OK {
 		return api.Message{}, e
 	}
-	return m, r.last(&m)
+	// last writes into m, so it goes ahead of the return: within one, Go leaves open whether m is read before it or after it.
+	if e := r.last(&m); e != api.OK {
+		return api.Message{}, e
+	}
+	return m, api.OK
 }
 
 // fill sets the message's numbers to what next tells, one behind the other.

@@ -22,21 +22,22 @@ func wantNoMessage(t *testing.T, b string) {
 // P15.2: the bytes of each kind, written out.
 func TestBytesOfEachKind(t *testing.T) {
 	for want, m := range map[string]api.Message{
-		"\x01\x00\x01\x05":                                  asks(0, opening(5)),
-		"\x01\x07\x01\xac\x02":                              asks(7, opening(300)),
-		"\x01\x01\x02\x03\x04\x02" + get:                    asks(1, calling(3, 4, 2, parsed("get t k"))),
-		"\x01\x01\x02\x80\x01\xff\x01\x00" + get:            asks(1, calling(128, 255, 0, parsed("get t k"))),
-		"\x01\x02\x03\x03":                                  asks(2, closing(3)),
-		"\x02\x03\x01\x05\x06":                              tells(3, opened(5, 6)),
-		"\x02\x04\x02\x05":                                  tells(4, full(5)),
-		"\x02\x05\x03\x03\x04" + other:                      tells(5, answered(3, 4, []byte(other))),
-		"\x02\x05\x03\x80\x01\x04\x00\x01\x00\x00" + "\x00": tells(5, answered(128, 4, []byte("\x00\x01\x00\x00\x00"))),
-		"\x02\x06\x04\x03\x04":                              tells(6, gone(3, 4)),
-		"\x02\x06\x04\x03\x00":                              tells(6, gone(3, 0)),
-		"\x02\x00\x05\x03\x04":                              tells(0, stale(3, 4)),
-		"\x02\x01\x06\x03\x04":                              tells(1, ahead(3, 4)),
-		"\x02\x02\x07\x03":                                  tells(2, closed(3)),
-		"\x02\x02\x07\xff\xff\xff\xff\xff\xff\xff\xff\x7f":  tells(2, closed(math.MaxInt64)),
+		"\x01\x00\x01\x05":                                            asks(0, opening(5)),
+		"\x01\x07\x01\xac\x02":                                        asks(7, opening(300)),
+		"\x01\x01\x02\x03\x04\x02" + get:                              asks(1, calling(3, 4, 2, parsed("get t k"))),
+		"\x01\x01\x02\x80\x01\xff\x01\x00" + get:                      asks(1, calling(128, 255, 0, parsed("get t k"))),
+		"\x01\x00\x02\x01\x01\x00\x01\x04\x03000\x01\x00\x00\x00\x00": asks(0, calling(1, 1, 0, parsed("swap 000 %00 - %"))),
+		"\x01\x02\x03\x03":                                            asks(2, closing(3)),
+		"\x02\x03\x01\x05\x06":                                        tells(3, opened(5, 6)),
+		"\x02\x04\x02\x05":                                            tells(4, full(5)),
+		"\x02\x05\x03\x03\x04" + other:                                tells(5, answered(3, 4, []byte(other))),
+		"\x02\x05\x03\x80\x01\x04\x00\x01\x00\x00" + "\x00":           tells(5, answered(128, 4, []byte("\x00\x01\x00\x00\x00"))),
+		"\x02\x06\x04\x03\x04":                                        tells(6, gone(3, 4)),
+		"\x02\x06\x04\x03\x00":                                        tells(6, gone(3, 0)),
+		"\x02\x00\x05\x03\x04":                                        tells(0, stale(3, 4)),
+		"\x02\x01\x06\x03\x04":                                        tells(1, ahead(3, 4)),
+		"\x02\x02\x07\x03":                                            tells(2, closed(3)),
+		"\x02\x02\x07\xff\xff\xff\xff\xff\xff\xff\xff\x7f":            tells(2, closed(math.MaxInt64)),
 	} {
 		if b, e := message.Bytes(m); string(b) != want || e != api.OK {
 			t.Errorf("Bytes(%v): % x, %v; want % x", m, b, e, want)
